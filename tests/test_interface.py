@@ -1,0 +1,41 @@
+"""The interface: each name in its own file, with its arguments and what is handed in where nothing is."""
+
+import importlib
+import inspect
+import unittest
+
+FUNCTIONS = {
+    "kinds": ("is_number(thing)", "is_word(thing)"),
+    "fractions": ("is_fraction(thing)", "fraction_of(over, under)", "plus(one, other)", "times(one, other)",
+                  "lesser(one, other)", "minus(one, other)", "is_less(one, other)", "total_of(fractions)"),
+    "house": ("asked(setting, house, clock, letter)", "fallen(setting, house)"),
+    "lines": ("shown_step(step)", "shown_steps(steps)", "shown_setting(setting)", "shown_key(key)"),
+}
+CLASSES = {
+    "errors": ("CallError", "LostError", "NoPaper(word, at)", "NoSetting(word)", "NoOrder(bar)", "NoText(line, word)",
+               "NoLine(row)", "NoStep(step)", "NoKey(key)", "NoBack(times)"),
+}
+
+
+class TestInterface(unittest.TestCase):
+    def test_functions(self):
+        for file, told in FUNCTIONS.items():
+            for line in told:
+                name, rest = line.split("(", 1)
+                function = getattr(importlib.import_module(f"twicecalls.{file}"), name)
+                self.assertEqual(f"({rest}", str(inspect.signature(function)), name)
+                self.assertEqual(function.__module__, f"twicecalls.{file}")
+
+    def test_classes(self):
+        for file, told in CLASSES.items():
+            for line in told:
+                name, _, rest = line.partition("(")
+                kind = getattr(importlib.import_module(f"twicecalls.{file}"), name)
+                self.assertEqual(kind.__module__, f"twicecalls.{file}")
+                if rest:
+                    self.assertEqual(f"({rest}", str(inspect.signature(kind)), name)
+                    self.assertIn("__init__", vars(kind))
+
+
+if __name__ == "__main__":
+    unittest.main()

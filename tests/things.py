@@ -1,0 +1,38 @@
+"""Things that several tests hand in."""
+
+HUGE = 10 ** 200 - 1
+
+
+def nested(depth, rows=tuple):
+    """So many tuples, or lists, within one another."""
+    thing = rows()
+    for _ in range(depth - 1):
+        thing = rows([thing])
+    return thing
+
+
+# Things of every form that any thing may have; a test leaves out those that are what it asks for.
+ODD_THINGS = (
+    True, False, None, -1, -HUGE, 0, 1, HUGE,
+    "", " ", "a b", "A", "1", "a", "first", "tick", "late", "done", "~", "two\nlines", "x" * 4000,
+    (), [], ((),), [[]], ([],), [()], (None,), (True,), ("",), (-1,), [0], [1, 1], (1,) * 7,
+    nested(20), nested(20, list), tuple(range(5000)), list(range(5000)),
+)
+
+SETTING = (
+    (
+        (((("till", 5, 20), ("till", 1, 0), ("safe", 2, 3), ("till", 7, 1)), (), (("safe", 4, 9),)), (1, 2), (2, 1)),
+        ((), (0, 1), (1, 3)),
+        (((("box", 1, 0),),), (3, 1), (0, 1)),
+    ),
+    2,
+    3,
+)
+
+
+def same(one, other):
+    """Whether two things are alike, no True taken for a 1, no list for a tuple."""
+    if isinstance(one, (tuple, list)) and isinstance(other, (tuple, list)):
+        alike = one.__class__ is other.__class__ and len(one) == len(other)
+        return alike and all(same(a, b) for a, b in zip(one, other))
+    return one.__class__ is other.__class__ and one == other

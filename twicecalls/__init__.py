@@ -1,0 +1,1 @@
+"""Twicecalls: calls that may be tried twice over two lanes, and are done once."""
