@@ -100,6 +100,8 @@ class TestForm(unittest.TestCase):
                 self.assertNotIsInstance(node, BARRED_NODES, where)
                 if isinstance(node, (ast.FunctionDef, ast.ClassDef)):
                     self.assertEqual(node.decorator_list, [], where)
+                if isinstance(node, ast.Subscript):
+                    self.assertFalse(any(isinstance(part, ast.Starred) for part in ast.walk(node.slice)), where)
                 if isinstance(node, ast.GeneratorExp):
                     self.fail(f"{where}: a list is wanted where a class may have __eq__")
                 if isinstance(node, ast.Constant) and isinstance(node.value, str):

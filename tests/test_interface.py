@@ -9,6 +9,16 @@ FUNCTIONS = {
     "fractions": ("is_fraction(thing)", "fraction_of(over, under)", "plus(one, other)", "times(one, other)",
                   "lesser(one, other)", "minus(one, other)", "is_less(one, other)", "total_of(fractions)"),
     "house": ("asked(setting, house, clock, letter)", "fallen(setting, house)"),
+    "purses": ("is_allowance(thing)", "is_takings(thing)", "purse_behind(allowance, word, begin=None)",
+               "fits(allowance, takings, begin=None)", "purse_left(allowance, takings, begin=None)"),
+    "settings": ("is_call(thing)", "is_group(thing)", "is_caller(thing)", "is_setting(thing)", "is_answer(thing)",
+                 "is_step(thing)", "is_letter(thing)", "keys_of(setting)", "groups_of(setting)", "cells_of(setting)",
+                 "is_key(setting, thing)", "call_of(setting, key)", "group_of(setting, pair)",
+                 "allowance_of(setting, caller)", "keys_ahead(setting, key)", "key_behind(setting, key)"),
+    "trees": ("is_tree(thing)", "places_in(tree)", "part_at(tree, place)", "need(tree)", "needs(tree)"),
+    "splitting": ("split(tree, whole, weights=None)", "dues(tree, amounts)"),
+    "splitchecker": ("lets_split(tree, whole, thing)",),
+    "readings": ("read_step(text, line=0)", "read_steps(text)", "read_setting(text)", "read_key(text)"),
     "lines": ("shown_step(step)", "shown_steps(steps)", "shown_setting(setting)", "shown_key(key)"),
 }
 CLASSES = {

@@ -1,5 +1,7 @@
 """Things that several tests hand in."""
 
+import random
+
 HUGE = 10 ** 200 - 1
 
 
@@ -28,6 +30,25 @@ SETTING = (
     2,
     3,
 )
+
+WORK = ("work", 5)
+BESIDE = ("beside", 1, (("work", 3), ("work", 7)))
+TREE = ("then", 2, (WORK, BESIDE, ("work", 0)))
+# Eleven parts of one, so that number 10 stands behind number 2.
+WIDE = ("beside", 0, tuple(("work", k) for k in range(11)))
+DEEP = ("then", 1, (("beside", 2, (("then", 3, (("work", 4), ("work", 5))),)),))
+
+
+def tree_made(chance, depth=4):
+    if depth == 1 or chance.random() < 0.4:
+        return ("work", chance.randrange(9))
+    parts = tuple(tree_made(chance, depth - 1) for _ in range(chance.randrange(1, 4)))
+    return (chance.choice(("then", "beside")), chance.randrange(5), parts)
+
+
+def many_trees():
+    chance = random.Random(25)
+    return [tree_made(chance) for _ in range(150)] + [WORK, BESIDE, TREE, WIDE, DEEP]
 
 
 def same(one, other):

@@ -78,8 +78,8 @@ def _decided(cells, entry, clock, call):
             answer = ("done", sums[cell])
         decided.append(((*pair, turn), answer))
         turn += 1
-    answers = (*answers, *[answer for key, answer in decided])
-    still = tuple(sorted([other for other in waiting if other[0] in ready]))
+    answers = answers + tuple([told for key, told in decided])
+    still = tuple([other for other in waiting if other[0] in ready])
     return _rising(sums), (pair, turn, floor, answers, still), tuple(decided)
 
 

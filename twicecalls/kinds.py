@@ -8,6 +8,16 @@ def is_number(thing):
     return isinstance(thing, int) and not isinstance(thing, bool) and thing >= 0
 
 
+def is_count(thing):
+    """Whether a thing is a NUMBER from 1 on."""
+    return is_number(thing) and thing > 0
+
+
+def is_lane(thing):
+    """Whether a thing is the NUMBER of a LANE."""
+    return is_number(thing) and thing < 2
+
+
 def is_word(thing):
     """Whether a thing is a WORD: a text of one to eight small letters."""
     if not isinstance(thing, str) or not 1 <= len(thing) <= 8:
