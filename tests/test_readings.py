@@ -39,8 +39,7 @@ class TestReadStep(Refusing):
 
     def test_first_words(self):
         for text in ("", " ", "x", "Go 0", "go\n", "tick\n", "\n", "tick\ntick", " tick", "  tick", "0", "first",
-                     "gone 0",
-                     "setting 1 1", "ask", "go\t0", "~"):
+                     "gone 0", "setting 1 1", "ask", "go\t0", "~"):
             self.refused(0, 0, read_step, text)
 
     def test_numbers(self):
@@ -110,8 +109,7 @@ class TestReadKey(Refusing):
 
     def test_no_keys(self):
         for text in ("", "\n", "0", "0.1", "0.1.", ".0.1", "0..1", "0.1.2.3", "0.1.2.", "a.b.c", "0,1,2", "0.1.-2",
-                     "00.1.2",
-                     "0.1.02", "0.1.2\n", "0.1.1000000000000", "0/1", "0.1.2\n3", "0.1.2\n0.1.2", "-", " "):
+                     "00.1.2", "0.1.02", "0.1.2\n", "0.1.1000000000000", "0/1", "0.1.2\n3", "0.1.2\n0.1.2", "-", " "):
             self.refused(0, 0, read_key, text)
         for text in (" 0.1.2", "0.1 2", "0 1 2", "0.1 0.1.2"):
             self.refused(0, 0, read_key, text)
@@ -130,8 +128,7 @@ class TestReadSetting(Refusing):
 
     def test_first_line(self):
         for text in ("caller 0/1 0/1", "group", "x", "Setting 1 1", " setting 1 1", "\n",
-                     "\nsetting 1 1\ncaller 0/1 0/1",
-                     "", "tick", "setting\t1 1"):
+                     "\nsetting 1 1\ncaller 0/1 0/1", "", "tick", "setting\t1 1"):
             self.refused(0, 0, read_setting, text)
         for word in (*NO_NUMBERS[:11], "0", "1/1"):
             self.refused(0, 1, read_setting, f"setting {word} 1\ncaller 0/1 0/1")
@@ -159,8 +156,7 @@ class TestReadSetting(Refusing):
 
     def test_callers(self):
         for word in ("", "0", "1", "0/0", "1/0", "0/2", "2/4", "1/2/3", "/", "1/", "/1", "01/2", "1/02", "-1/2",
-                     "1:2", "a/b",
-                     "1/1000000000000", "1000000000000/1", "1//2"):
+                     "1:2", "a/b", "1/1000000000000", "1000000000000/1", "1//2"):
             self.refused(1, 1, read_setting, f"setting 1 1\ncaller {word} 0/1")
             self.refused(1, 2, read_setting, f"setting 1 1\ncaller 0/1 {word}")
         self.refused(1, 1, read_setting, "setting 1 1\ncaller")
@@ -173,10 +169,8 @@ class TestReadSetting(Refusing):
     def test_groups(self):
         head = "setting 1 1\ncaller 0/1 0/1\n"
         for word in ("", "till", "till:5", "till:5:", ":5:20", "till:0:20", "till:05:20", "till:5:020",
-                     "till:5:20:1", "Till:5:20",
-                     "abcdefghi:5:20", "till:5:-1", "till:1000000000000:1", "till:1:1000000000000", "till/5/20",
-                     "5:5:20",
-                     "till::5:20", "group"):
+                     "till:5:20:1", "Till:5:20", "abcdefghi:5:20", "till:5:-1", "till:1000000000000:1",
+                     "till:1:1000000000000", "till/5/20", "5:5:20", "till::5:20", "group"):
             self.refused(2, 1, read_setting, f"{head}group {word}")
             self.refused(2, 2, read_setting, f"{head}group a:1:0 {word}")
             self.refused(2, 2, read_setting, f"{head}group a:1:0 {word} x")
