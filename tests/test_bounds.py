@@ -21,8 +21,8 @@ from twicecalls.trees import need, needs
 ALLOWANCE = ((1, 2), (2, 1))
 LOOKS = [
     *(getattr(module, name) for module in (kinds, fractions, purses, settings, trees) for name in sorted(vars(module))
-      if name in ("is_number", "is_word", "is_fraction", "is_allowance", "is_takings", "is_call", "is_group", "is_caller",
-                  "is_setting", "is_answer", "is_step", "is_letter", "is_tree")),
+      if name in ("is_number", "is_word", "is_fraction", "is_allowance", "is_takings", "is_call", "is_group",
+                  "is_caller", "is_setting", "is_answer", "is_step", "is_letter", "is_tree")),
     lambda thing: purse_behind(ALLOWANCE, thing),
     lambda thing: settings.is_key(SETTING, thing),
     lambda thing: settings.call_of(SETTING, thing),
@@ -34,8 +34,8 @@ LOOKS = [
     lambda thing: splitchecker.lets_split(TREE, 30, thing),
 ]
 # Lists in the place of tuples, so that there is something that could be changed.
-LISTS = ([0, 0, 0], [(), [1, 1]], [["go", 0]], ["then", 1, [["work", 1]]], [[[[["till", 5, 20]]], [1, 2], [2, 1]], 1, 1],
-         ([0], (0, 0)), (([], (5, 1)),), (((), [5, 1]),), ("then", 1, [("work", 1)]))
+LISTS = ([0, 0, 0], [(), [1, 1]], [["go", 0]], ["then", 1, [["work", 1]]],
+         [[[[["till", 5, 20]]], [1, 2], [2, 1]], 1, 1], ([0], (0, 0)), (([], (5, 1)),), (((), [5, 1]),), ("then", 1, [("work", 1)]))
 
 
 def told(look, thing):
