@@ -5,9 +5,10 @@ import random
 import unittest
 from fractions import Fraction
 
-from things import ODD_THINGS, SETTING, TREE, same
+from things import ODD_THINGS, SETTING, TIMING, TREE, same
 
-from twicecalls import fractions, kinds, purses, settings, splitchecker, trees
+from twicecalls import (blaming, books, fractions, kinds, letters, purses, records, settings, splitchecker, timing,
+                        trees)
 from twicecalls.errors import CallError, LostError
 from twicecalls.fractions import fraction_of, plus
 from twicecalls.house import asked
@@ -19,10 +20,11 @@ from twicecalls.splitting import dues, split
 from twicecalls.trees import need, needs
 
 ALLOWANCE = ((1, 2), (2, 1))
+HISTORY = (((0, 0, 0), "till", 5, 0, 3, ("done", 5)),)
 LOOKS = [
-    *(getattr(module, name) for module in (kinds, fractions, purses, settings, trees) for name in sorted(vars(module))
-      if name in ("is_number", "is_word", "is_fraction", "is_allowance", "is_takings", "is_call", "is_group",
-                  "is_caller", "is_setting", "is_answer", "is_step", "is_letter", "is_tree")),
+    kinds.is_number, kinds.is_word, fractions.is_fraction, purses.is_allowance, purses.is_takings, settings.is_call,
+    settings.is_group, settings.is_caller, settings.is_setting, settings.is_answer, settings.is_step,
+    settings.is_letter, trees.is_tree, records.is_history,
     lambda thing: purse_behind(ALLOWANCE, thing),
     lambda thing: settings.is_key(SETTING, thing),
     lambda thing: settings.call_of(SETTING, thing),
@@ -32,10 +34,17 @@ LOOKS = [
     lambda thing: settings.key_behind(SETTING, thing),
     lambda thing: trees.part_at(TREE, thing),
     lambda thing: splitchecker.lets_split(TREE, 30, thing),
+    lambda thing: timing.is_timing(TREE, thing),
+    lambda thing: blaming.lets_blame(TREE, TIMING, thing),
+    lambda thing: books.lets_book(SETTING, thing),
+    lambda thing: letters.is_letter_of(SETTING, thing),
+    lambda thing: records.words_ahead(HISTORY, thing, (0, 0, 0)),
+    lambda thing: records.words_ahead(HISTORY, (0, 0, 0), thing),
 ]
 # Lists in the place of tuples, so that there is something that could be changed.
 LISTS = ([0, 0, 0], [(), [1, 1]], [["go", 0]], ["then", 1, [["work", 1]]],
-         [[[[["till", 5, 20]]], [1, 2], [2, 1]], 1, 1], ([0], (0, 0)), (([], (5, 1)),), (((), [5, 1]),), ("then", 1, [("work", 1)]))
+         [[[[["till", 5, 20]]], [1, 2], [2, 1]], 1, 1], ([0], (0, 0)), (([], (5, 1)),), (((), [5, 1]),),
+         ("then", 1, [("work", 1)]))
 
 
 def told(look, thing):
@@ -78,6 +87,19 @@ class TestBounds(unittest.TestCase):
         self.assertIs(lets_split(tree, 10 ** 8, amounts), True)
         self.assertEqual(dues(tree, amounts)[-1], ((2,), (10 ** 8 - 10 ** 6, 1)))
 
+    def test_timings(self):
+        great = 10 ** 6
+        tree = ("then", great, (("beside", great, (("then", great, (("work", great),) * 3),) * 2),))
+        late = ("then", ((great, great), (great, great), (great, great + 1)), (("work", great),) * 3)
+        told_times = ("then", ((great, great),), (("beside", ((great, great),) * 2, (late, late)),))
+        self.assertIs(timing.is_timing(tree, told_times), True)
+        self.assertEqual(timing.took(told_times), need(tree) + 1)
+        self.assertEqual(timing.over(tree, told_times), (("back", (0, 0, 2)), ("back", (0, 1, 2))))
+        self.assertEqual(timing.moments(told_times, great)[-1], ((0, 1, 2), 10 * great, 11 * great))
+        told = blaming.blame(tree, told_times)
+        self.assertEqual(told, (((), (0,), (0, 0)), ("back", 2)))
+        self.assertIs(blaming.lets_blame(tree, told_times, told), True)
+
     def test_settings(self):
         group = (("till", 10 ** 6, 20),) * 6
         setting = ((((group,) * 3, (1, 10 ** 99), (10 ** 99, 1)),) * 3, 9, 9)
@@ -87,6 +109,7 @@ class TestBounds(unittest.TestCase):
             house, _, _ = asked(setting, house, 20, ("ask", key, "till", 10 ** 6, 20, 0))
         self.assertEqual(house[0], (("till", 54 * 10 ** 6),))
         self.assertEqual(len(house[1]), 54)
+        self.assertEqual(books.lets_book(setting, house[1]), house[0])
         small = ((((group,) * 3, (1, 10 ** 6), (10 ** 6, 1)),) * 3, 9, 9)
         self.assertEqual(read_setting(shown_setting(small)), small)
 

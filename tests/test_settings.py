@@ -1,6 +1,6 @@
 import unittest
 
-from things import HUGE, ODD_THINGS, SETTING, same
+from things import HUGE, KEYS, NO_KEYS, ODD_THINGS, SETTING, same
 
 from twicecalls import settings
 from twicecalls.errors import NoKey
@@ -10,12 +10,6 @@ from twicecalls.settings import (allowance_of, call_of, cells_of, group_of, grou
 CALL = ("till", 5, 20)
 GROUP = (CALL, ("a", 1, 0))
 CALLER = ((GROUP, ()), (1, 2), (2, 1))
-KEYS = ((0, 0, 0), (0, 0, 1), (0, 0, 2), (0, 0, 3), (0, 2, 0), (2, 0, 0))
-NO_KEYS = ((0, 0, 4), (0, 1, 0), (0, 3, 0), (1, 0, 0), (3, 0, 0), (2, 0, 1), (2, 1, 0), (-1, 0, 0), (0, -1, 0),
-           (0, 0, -1), (HUGE, 0, 0), (0, HUGE, 0), (0, 0, HUGE), (False, 0, 0), (0, False, 0), (0, 0, False),
-           (0, 0, True), [0, 0, 0], (0, 0), (0, 0, 0, 0), ((0, 0), 0), ("0", 0, 0), (0, 0, None), ([0], 0, 0),
-           "0.0.0", 0, None, True, ())
-
 RIGHT = {
     "is_call": (CALL, ("a", 1, 0), ("abcdefgh", HUGE, HUGE)),
     "is_group": ((), (CALL,), GROUP, (CALL,) * 100),

@@ -31,6 +31,13 @@ SETTING = (
     3,
 )
 
+# All KEYS of it, and some things that are none.
+KEYS = ((0, 0, 0), (0, 0, 1), (0, 0, 2), (0, 0, 3), (0, 2, 0), (2, 0, 0))
+NO_KEYS = ((0, 0, 4), (0, 1, 0), (0, 3, 0), (1, 0, 0), (3, 0, 0), (2, 0, 1), (2, 1, 0), (-1, 0, 0), (0, -1, 0),
+           (0, 0, -1), (HUGE, 0, 0), (0, HUGE, 0), (0, 0, HUGE), (False, 0, 0), (0, False, 0), (0, 0, False),
+           (0, 0, True), [0, 0, 0], (0, 0), (0, 0, 0, 0), ((0, 0), 0), ("0", 0, 0), (0, 0, None), ([0], 0, 0),
+           "0.0.0", 0, None, True, ())
+
 WORK = ("work", 5)
 BESIDE = ("beside", 1, (("work", 3), ("work", 7)))
 TREE = ("then", 2, (WORK, BESIDE, ("work", 0)))
@@ -49,6 +56,39 @@ def tree_made(chance, depth=4):
 def many_trees():
     chance = random.Random(25)
     return [tree_made(chance) for _ in range(150)] + [WORK, BESIDE, TREE, WIDE, DEEP]
+
+
+# TREE's: it TOOK 18, 7 and 10 and 1.
+TIMING = ("then", ((1, 2), (2, 0), (0, 1)),
+          (("work", 4), ("beside", ((1, 1), (0, 2)), (("work", 3), ("work", 6))), ("work", 0)))
+
+
+def timing_made(chance, tree, more=3):
+    """A TIMING of a TREE, whose times are up to so much above the bounds."""
+    if tree[0] == "work":
+        return ("work", chance.randrange(tree[1] + more + 1))
+    travels = tuple((chance.randrange(tree[1] + more), chance.randrange(tree[1] + more)) for _ in tree[2])
+    return (tree[0], travels, tuple(timing_made(chance, part, more) for part in tree[2]))
+
+
+def many_timings(more=3):
+    chance = random.Random(30)
+    return [(tree, timing_made(chance, tree, more)) for tree in many_trees() for _ in range(3)]
+
+
+def spoiled(thing):
+    """Things like this one, but for one part, at whatever depth, that is of another kind, lacks, or is doubled."""
+    yield from (None, [thing])
+    if isinstance(thing, str):
+        yield from (thing.upper(), thing + " ", "", 0, list(thing))
+    elif isinstance(thing, tuple):
+        yield from (list(thing), thing + thing[-1:] if thing else (None,), thing + (None,), len(thing))
+        for k, part in enumerate(thing):
+            yield thing[:k] + thing[k + 1:]
+            for other in spoiled(part):
+                yield thing[:k] + (other,) + thing[k + 1:]
+    else:
+        yield from (True, False, -1 - thing, str(thing), (thing,))
 
 
 def same(one, other):

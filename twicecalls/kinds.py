@@ -33,3 +33,8 @@ def is_row(thing, many):
 def are_numbers(thing):
     """Whether a thing is a tuple of NUMBERS, perhaps ()."""
     return isinstance(thing, tuple) and all([is_number(part) for part in thing])
+
+
+def is_number_row(thing, many):
+    """Whether a thing is a tuple of so many NUMBERS."""
+    return is_row(thing, many) and are_numbers(thing)

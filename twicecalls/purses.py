@@ -24,7 +24,7 @@ def purse_behind(allowance, word, begin=None):
     """What the purse has behind a word, begin ahead of it."""
     if not _is_taking(word):
         raise NoSetting("word")
-    purse = _behind(allowance, word, _begun(allowance, begin))
+    purse = purse_or_none(allowance, word, purse_begun(allowance, begin))
     if purse is None:
         raise NoSetting("purse")
     return purse
@@ -43,15 +43,12 @@ def purse_left(allowance, takings, begin=None):
     return purse
 
 
-def _is_taking(thing):
-    return thing in ("first", "more")
-
-
-def _begun(allowance, begin):
+def purse_begun(allowance, begin):
+    """What the purse has at first: begin, most where it is None."""
     return allowance[1] if begin is None else begin
 
 
-def _behind(allowance, word, purse):
+def purse_or_none(allowance, word, purse):
     """What the purse has behind a word, None where it has less than a whole for a "more"."""
     rate, most = allowance
     if word == "first":
@@ -59,10 +56,14 @@ def _behind(allowance, word, purse):
     return minus(purse, WHOLE)
 
 
+def _is_taking(thing):
+    return thing in ("first", "more")
+
+
 def _left(allowance, takings, begin):
-    purse = _begun(allowance, begin)
+    purse = purse_begun(allowance, begin)
     for word in takings:
-        purse = _behind(allowance, word, purse)
+        purse = purse_or_none(allowance, word, purse)
         if purse is None:
             return None
     return purse

@@ -2,7 +2,7 @@
 
 from twicecalls.errors import NoKey
 from twicecalls.fractions import is_fraction
-from twicecalls.kinds import are_numbers, is_count, is_lane, is_number, is_row, is_word
+from twicecalls.kinds import is_count, is_lane, is_number, is_number_row, is_row, is_word
 
 # What stands behind the word of each STEP.
 STEP_FORMS = {
@@ -69,7 +69,7 @@ def is_letter(thing):
 
 def is_key_form(thing):
     """Whether a thing is a KEY by its form: three NUMBERS, any."""
-    return is_row(thing, 3) and are_numbers(thing)
+    return is_number_row(thing, 3)
 
 
 def keys_of(setting):
@@ -133,7 +133,7 @@ def key_behind(setting, key):
 
 
 def _is_pair(setting, thing):
-    if not is_row(thing, 2) or not are_numbers(thing):
+    if not is_number_row(thing, 2):
         return False
     caller, group = thing
     return caller < len(setting[0]) and group < len(setting[0][caller][0])
