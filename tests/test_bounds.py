@@ -7,8 +7,8 @@ from fractions import Fraction
 
 from things import ODD_THINGS, SETTING, TIMING, TREE, same
 
-from twicecalls import (blaming, books, fractions, kinds, letters, purses, records, settings, splitchecker, timing,
-                        trees)
+from twicecalls import (barchecker, blaming, books, callers, fractions, kinds, ledgerchecker, letters, linechecker,
+                        purses, records, settings, splitchecker, states, timing, trees)
 from twicecalls.errors import CallError, LostError
 from twicecalls.fractions import fraction_of, plus
 from twicecalls.house import asked
@@ -40,6 +40,15 @@ LOOKS = [
     lambda thing: letters.is_letter_of(SETTING, thing),
     lambda thing: records.words_ahead(HISTORY, thing, (0, 0, 0)),
     lambda thing: records.words_ahead(HISTORY, (0, 0, 0), thing),
+    lambda thing: barchecker.lets_bar(HISTORY, thing),
+    lambda thing: barchecker.lets_bar(HISTORY, ("ring", thing)),
+    lambda thing: linechecker.lets_line(SETTING, thing),
+    lambda thing: linechecker.lets_line(SETTING, (("try", thing),)),
+    lambda thing: ledgerchecker.lets_ledger(ALLOWANCE, ("first",), thing),
+    lambda thing: ledgerchecker.lets_overdraft(ALLOWANCE, ("first",), thing),
+    lambda thing: callers.due(SETTING, states.begun(SETTING), thing),
+    lambda thing: states.answer_had(SETTING, states.begun(SETTING), thing),
+    lambda thing: states.answer_decided(SETTING, states.begun(SETTING), thing),
 ]
 # Lists in the place of tuples, so that there is something that could be changed.
 LISTS = ([0, 0, 0], [(), [1, 1]], [["go", 0]], ["then", 1, [["work", 1]]],

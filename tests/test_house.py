@@ -2,6 +2,7 @@ import copy
 import random
 import unittest
 
+from plain import PlainHouse
 from things import same
 
 from twicecalls.house import asked, fallen
@@ -159,50 +160,6 @@ class TestFallen(unittest.TestCase):
         self.assertEqual(fallen(house=VOID, setting=SETTING), VOID)
 
 
-class Plain:
-    """A house written down another way: by dicts, as [5] tells it."""
-
-    def __init__(self):
-        self.cells, self.book, self.groups = {}, {}, {}
-
-    def ask(self, clock, letter):
-        _, key, cell, number, last, heard = letter
-        group = self.groups.setdefault(key[:2], {"next": 0, "floor": 0, "waits": {}})
-        group["floor"] = max(group["floor"], heard)
-        if key[2] < group["floor"]:
-            return []
-        if key in self.book:
-            return [key]
-        if key[2] == group["next"] or key[2] < group["floor"] + SETTING[1]:
-            group["waits"].setdefault(key[2], (cell, number, last))
-        told = []
-        while group["next"] in group["waits"]:
-            one = (*key[:2], group["next"])
-            self.decide(clock, one, *group["waits"].pop(one[2]))
-            group["next"] += 1
-            told.append(one)
-        return told
-
-    def decide(self, clock, key, cell, number, last):
-        if clock > last:
-            self.book[key] = ("late",)
-        else:
-            self.cells[cell] = self.cells.get(cell, 0) + number
-            self.book[key] = ("done", self.cells[cell])
-
-    def fall(self):
-        for group in self.groups.values():
-            group["waits"] = {}
-
-    def as_house(self):
-        rows = []
-        for pair, group in sorted(self.groups.items()):
-            answers = tuple(self.book[(*pair, n)] for n in range(group["floor"], group["next"]))
-            waits = tuple((n, *call) for n, call in sorted(group["waits"].items()))
-            rows.append((pair, group["next"], group["floor"], answers, waits))
-        return (tuple(sorted(self.cells.items())), tuple(self.book.items()), tuple(rows))
-
-
 class TestManyRows(unittest.TestCase):
     KEYS = [(c, g, n) for c, caller in enumerate(SETTING[0]) for g, group in enumerate(caller[0])
             for n in range(len(group))]
@@ -210,7 +167,7 @@ class TestManyRows(unittest.TestCase):
     def test_against_a_plain_one(self):
         chance = random.Random(41)
         for _ in range(150):
-            plain, house, clock = Plain(), VOID, 0
+            plain, house, clock = PlainHouse(SETTING[1]), VOID, 0
             for _ in range(60):
                 clock += chance.random() < 0.3
                 if chance.random() < 0.05:

@@ -2,19 +2,12 @@ import itertools
 import random
 import unittest
 
+from takings import ALLOWANCES, ROWS, begins
 from things import ODD_THINGS, same
 
 from twicecalls.errors import NoSetting
 from twicecalls.fractions import is_less, minus, plus, times, total_of
 from twicecalls.purses import fits, is_allowance, is_takings, purse_behind, purse_left
-
-ALLOWANCES = (((1, 2), (2, 1)), ((0, 1), (0, 1)), ((0, 1), (3, 2)), ((1, 3), (1, 1)), ((5, 2), (2, 1)),
-              ((2, 3), (1, 2)), ((1, 1), (3, 1)))
-ROWS = [row for many in range(6) for row in itertools.product(("first", "more"), repeat=many)]
-
-
-def begins(allowance):
-    return [None, (0, 1), allowance[1]] + [part for part in ((1, 2), (1, 1)) if not is_less(allowance[1], part)]
 
 
 class TestKinds(unittest.TestCase):

@@ -5,7 +5,7 @@ from things import HUGE, KEYS, NO_KEYS, ODD_THINGS, SETTING, same
 from twicecalls import settings
 from twicecalls.errors import NoKey
 from twicecalls.settings import (allowance_of, call_of, cells_of, group_of, groups_of, is_answer, is_call, is_caller,
-                                 is_group, is_key, is_letter, is_setting, is_step, key_behind, keys_ahead, keys_of)
+                                 is_key, is_letter, is_setting, is_step, key_behind, keys_ahead, keys_of)
 
 CALL = ("till", 5, 20)
 GROUP = (CALL, ("a", 1, 0))
