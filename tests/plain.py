@@ -57,6 +57,7 @@ class PlainRun:
         # Of each KEY tried: [first, last_try, lane, answer].
         self.calls = {}
         self.house = PlainHouse(self.window)
+        self.steps, self.events = [], []
 
     def keys(self, caller=None):
         return [(c, g, n) for c, (groups, _, _) in enumerate(self.callers) if caller in (None, c)
@@ -117,6 +118,12 @@ class PlainRun:
 
     def step(self, step):
         """Does a STEP that can be done; its event."""
+        event = self.done(step)
+        self.steps.append(step)
+        self.events.append(event)
+        return event
+
+    def done(self, step):
         word, *rest = step
         if word in ("go", "get"):
             return {"go": self.go, "get": self.get}[word](*rest)
@@ -135,6 +142,47 @@ class PlainRun:
         many = sum(len(group["waits"]) for group in self.house.groups.values())
         self.house.fall()
         return ("fallen", many)
+
+    def can(self, step):
+        """Whether a STEP, one by kind, can be done."""
+        if step[0] == "go":
+            return step[1] < len(self.callers)
+        return len(step) < 3 or step[2] < len(self.lanes[step[1]])
+
+    def calm_step(self):
+        """The "get" of a FAIR ROUND that is next, None where both LANES are void."""
+        for lane in (0, 1):
+            if self.lanes[lane]:
+                return ("get", lane, 0)
+        return None
+
+    def fair_round(self):
+        while self.calm_step():
+            self.step(self.calm_step())
+        for caller in range(len(self.callers)):
+            while self.due(caller) != ("nothing",):
+                self.step(("go", caller))
+        self.step(("tick",))
+
+    def is_through(self):
+        return all(self.calls.get(key, (None,) * 4)[3] for key in self.keys())
+
+    def is_stuck(self):
+        """[65] says it otherwise than [63]: no STEPS at all send a LETTER, whatever ticks."""
+        if self.is_through() or self.lanes[0] or self.lanes[1]:
+            return False
+        clock, self.clock = self.clock, self.clock + self.patience
+        idle = all(self.due(caller) == ("nothing",) for caller in range(len(self.callers)))
+        self.clock = clock
+        return idle
+
+    def fair_run(self):
+        """Its word, and how many rounds."""
+        rounds = 0
+        while not self.is_through() and not self.is_stuck():
+            self.fair_round()
+            rounds += 1
+        return ("through" if self.is_through() else "stuck", rounds)
 
     def state(self):
         callers = []
@@ -173,6 +221,14 @@ def setting_made(chance):
     callers = tuple((tuple(group() for _ in range(chance.randrange(4))), chance.choice(((0, 1), (1, 2), (1, 1))),
                      chance.choice(((0, 1), (1, 1), (5, 2), (9, 1)))) for _ in range(chance.randrange(1, 4)))
     return (callers, chance.randrange(1, 4), chance.randrange(1, 4))
+
+
+def made_run(chance, many, wild=0.3, setting=None):
+    """A run of so many STEPS, of a SETTING that is made where none is handed in."""
+    run = PlainRun(setting_made(chance) if setting is None else setting)
+    for _ in range(many):
+        run.step(run.any_step(chance, wild))
+    return run
 
 
 def many_runs(chance, many, steps=60):

@@ -8,7 +8,8 @@ from fractions import Fraction
 from things import ODD_THINGS, SETTING, TIMING, TREE, same
 
 from twicecalls import (barchecker, blaming, books, callers, fractions, kinds, ledgerchecker, letters, linechecker,
-                        purses, records, settings, splitchecker, states, timing, trees)
+                        mill, oneline, orderchecker, outside, purses, records, runs, settings, sound, splitchecker,
+                        states, steps, stories, timing, trees, waychecker, waying)
 from twicecalls.errors import CallError, LostError
 from twicecalls.fractions import fraction_of, plus
 from twicecalls.house import asked
@@ -49,6 +50,26 @@ LOOKS = [
     lambda thing: callers.due(SETTING, states.begun(SETTING), thing),
     lambda thing: states.answer_had(SETTING, states.begun(SETTING), thing),
     lambda thing: states.answer_decided(SETTING, states.begun(SETTING), thing),
+    lambda thing: steps.stepped(SETTING, states.begun(SETTING), thing),
+    lambda thing: runs.run(SETTING, (thing, ("tick",))),
+    lambda thing: sound.is_sound(SETTING, thing),
+    lambda thing: sound.is_sound(SETTING, (0, *thing, 0) if isinstance(thing, tuple) else (thing,) * 4),
+    lambda thing: stories.story_of(SETTING, (("tick",),), thing),
+    lambda thing: stories.story_of(SETTING, (thing,), (0, 0, 0)),
+    lambda thing: stories.outcomes(SETTING, (thing,)),
+    lambda thing: oneline.line_of(SETTING, (thing,)),
+    lambda thing: waying.way_of(SETTING, states.begun(SETTING), thing),
+    lambda thing: waychecker.lets_way(SETTING, states.begun(SETTING), (0, 0, 0), thing),
+    lambda thing: waychecker.lets_way(SETTING, states.begun(SETTING), thing, ()),
+    lambda thing: outside.history_of(SETTING, (thing,)),
+    lambda thing: orderchecker.lets_order(HISTORY, thing),
+    lambda thing: orderchecker.lets_order(HISTORY, (thing,)),
+    lambda thing: mill.Mill(SETTING).do(thing),
+    lambda thing: mill.Mill(SETTING).run((("tick",), thing)),
+    lambda thing: mill.Mill(SETTING).back(thing),
+    lambda thing: mill.Mill(SETTING).then(thing),
+    lambda thing: mill.Mill(SETTING).known(thing),
+    lambda thing: mill.Mill(SETTING) == thing,
 ]
 # Lists in the place of tuples, so that there is something that could be changed.
 LISTS = ([0, 0, 0], [(), [1, 1]], [["go", 0]], ["then", 1, [["work", 1]]],

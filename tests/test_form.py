@@ -14,7 +14,8 @@ METHODS = set("""append clear copy count endswith extend find get index insert i
     isupper items join keys ljust lower lstrip partition pop remove replace reverse rfind rjust rpartition rsplit
     rstrip setdefault split splitlines startswith strip update upper values zfill bit_length title capitalize
     swapcase casefold center expandtabs removeprefix removesuffix rindex isascii isdecimal isnumeric istitle
-    isidentifier isprintable""".split())
+    isidentifier isprintable add discard""".split())
+SPECIAL = {"__init__": None, "__len__": r"return len\(", "__str__": r"return str\(", "__eq__": r"return isinstance\("}
 BARRED_NAMES = set("""register mro elements open input law version_info with_traceback add_note attrgetter breakpoint
     builtins compile copyright credits delattr dir eval exec exit gc globals help id importlib license locals
     methodcaller os quit super type vars sys""".split())
@@ -113,17 +114,50 @@ class TestForm(unittest.TestCase):
         for path, tree in trees():
             bound = set(bound_names(tree))
             self.assertEqual(bound & (set(dir(builtins)) | BARRED_NAMES), set(), path.name)
-            for name in bound - {"__init__"}:
+            for name in bound - set(SPECIAL):
                 self.assertRegex(name, r"^_?[A-Za-z][A-Za-z0-9_]*$|^_$", path.name)
             for node in ast.walk(tree):
                 if isinstance(node, ast.Name) and isinstance(node.ctx, ast.Load) and node.id not in bound:
                     self.assertIn(node.id, BUILTINS, f"{path.name}:{node.lineno}")
 
     def test_methods_that_are_called(self):
+        own = {node.name for _, tree in trees() for kind in tree.body if isinstance(kind, ast.ClassDef)
+               for node in kind.body if isinstance(node, ast.FunctionDef)} - set(SPECIAL)
+        self.assertEqual(own & METHODS, set())
         for path, tree in trees():
             for node in ast.walk(tree):
                 if isinstance(node, ast.Call) and isinstance(node.func, ast.Attribute):
-                    self.assertIn(node.func.attr, METHODS, f"{path.name}:{node.lineno}")
+                    self.assertIn(node.func.attr, METHODS | own, f"{path.name}:{node.lineno}")
+                if isinstance(node, ast.Call) and isinstance(node.func, ast.Attribute):
+                    self.assertEqual(node.keywords, [], f"{path.name}:{node.lineno}")
+
+    def test_special_methods_are_one_return(self):
+        for path, tree in trees():
+            for node in ast.walk(tree):
+                if isinstance(node, ast.FunctionDef) and SPECIAL.get(node.name):
+                    self.assertEqual(len(node.body), 1, path.name)
+                    self.assertRegex(ast.unparse(node.body[0]), SPECIAL[node.name])
+
+    def test_no_name_is_a_method_and_an_attribute(self):
+        for path, tree in trees():
+            for kind in [node for node in tree.body if isinstance(node, ast.ClassDef)]:
+                methods = {node.name for node in kind.body if isinstance(node, ast.FunctionDef)}
+                kept = {node.attr for node in ast.walk(kind) if isinstance(node, ast.Attribute)
+                        and isinstance(node.ctx, ast.Store)}
+                self.assertEqual(methods & kept, set(), path.name)
+
+    def test_stars_in_calls_stand_ahead_of_names(self):
+        for path, tree in trees():
+            for node in ast.walk(tree):
+                for part in node.args if isinstance(node, ast.Call) else ():
+                    if isinstance(part, ast.Starred):
+                        self.assertIsInstance(part.value, (ast.Name, ast.Attribute), f"{path.name}:{node.lineno}")
+
+    def test_only_own_errors_are_caught(self):
+        for path, tree in trees():
+            for node in ast.walk(tree):
+                if isinstance(node, ast.ExceptHandler):
+                    self.assertRegex(ast.unparse(node.type), r"^No[A-Z]\w+$", f"{path.name}:{node.lineno}")
 
     def test_no_local_has_the_name_of_an_import_or_class(self):
         for path, tree in trees():

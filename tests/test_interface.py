@@ -2,7 +2,10 @@
 
 import importlib
 import inspect
+import pathlib
 import unittest
+
+import twicecalls
 
 FUNCTIONS = {
     "kinds": ("is_number(thing)", "is_word(thing)"),
@@ -34,11 +37,30 @@ FUNCTIONS = {
     "records": ("is_history(thing)", "low_of(record)", "words_ahead(history, one, other)"),
     "splitchecker": ("lets_split(tree, whole, thing)",),
     "readings": ("read_step(text, line=0)", "read_steps(text)", "read_setting(text)", "read_key(text)"),
+    "steps": ("stepped(setting, state, step)",),
+    "runs": ("run(setting, steps, state=None, most=400)", "fair_round(setting, state)"),
+    "sound": ("is_sound(setting, thing)",),
+    "stories": ("story_of(setting, steps, key)", "outcomes(setting, steps)"),
+    "oneline": ("line_of(setting, steps)",),
+    "waying": ("way_of(setting, state, key)",),
+    "waychecker": ("lets_way(setting, state, key, thing)",),
+    "fair": ("is_stuck(setting, state)", "fair_run(setting, state)"),
+    "outside": ("ordered(history)", "history_of(setting, steps)"),
+    "orderchecker": ("lets_order(history, thing)",),
     "lines": ("shown_step(step)", "shown_steps(steps)", "shown_setting(setting)", "shown_key(key)"),
 }
 CLASSES = {
+    "mill": ("Mill(setting)",),
+    "desk": ("Desk()",),
     "errors": ("CallError", "LostError", "NoPaper(word, at)", "NoSetting(word)", "NoOrder(bar)", "NoText(line, word)",
                "NoLine(row)", "NoStep(step)", "NoKey(key)", "NoBack(times)"),
+}
+METHODS = {
+    "mill.Mill": ("do(self, step)", "run(self, steps, most=400)", "back(self, times=1)", "then(self, k)",
+                  "setting_now(self)", "state_now(self)", "steps_now(self)", "known(self, key)", "open_keys(self)",
+                  "book_keys(self)", "history(self)", "purse_of(self, caller)", "calm_steps(self, most=200)",
+                  "__len__(self)", "__str__(self)", "__eq__(self, other)"),
+    "desk.Desk": ("say(self, row)",),
 }
 
 
@@ -60,6 +82,19 @@ class TestInterface(unittest.TestCase):
                 if rest:
                     self.assertEqual(f"({rest}", str(inspect.signature(kind)), name)
                     self.assertIn("__init__", vars(kind))
+
+    def test_methods(self):
+        for place, told in METHODS.items():
+            file, name = place.split(".")
+            kind = getattr(importlib.import_module(f"twicecalls.{file}"), name)
+            for line in told:
+                method, rest = line.split("(", 1)
+                # In the class itself, not in a base of it alone.
+                self.assertEqual(f"({rest}", str(inspect.signature(vars(kind)[method])), line)
+
+    def test_each_module_has_its_row(self):
+        files = {path.stem for path in pathlib.Path(twicecalls.__file__).parent.glob("*.py")} - {"__init__"}
+        self.assertEqual(files, set(FUNCTIONS) | set(CLASSES))
 
 
 if __name__ == "__main__":

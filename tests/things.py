@@ -79,7 +79,9 @@ def many_timings(more=3):
 def spoiled(thing):
     """Things like this one, but for one part, at whatever depth, that is of another kind, lacks, or is doubled."""
     yield from (None, [thing])
-    if isinstance(thing, str):
+    if thing is None:
+        yield from (False, 0, (), "")
+    elif isinstance(thing, str):
         yield from (thing.upper(), thing + " ", "", 0, list(thing))
     elif isinstance(thing, tuple):
         yield from (list(thing), thing + thing[-1:] if thing else (None,), thing + (None,), len(thing))

@@ -17,13 +17,22 @@ def lets_bar(history, thing):
             raise NoPaper("key", k)
     entries = [entry_at[key] for key in keys]
     word = thing[0]
-    if word == "gap" and not _is_gap(history, entries[0]):
+    if word == "gap" and not is_gap(history, entries[0]):
         raise NoPaper("gap", -1)
     if word == "twice" and not _is_twice(entries[0], entries[1]):
         raise NoPaper("twice", -1)
     if word == "ring":
         _check_ring(entries)
     return word
+
+
+def is_gap(history, entry):
+    """Whether nothing of the HISTORY can have brought its cell to the LOW of a RECORD; never of a late one."""
+    low = low_of(entry)
+    if low is None or low == 0:
+        return False
+    # No ANSWER is below 0, so a LOW below 0 is a gap whatever there is.
+    return not any([other[1] == entry[1] and other[5] == ("done", low) for other in history])
 
 
 def _keys_in(thing):
@@ -35,14 +44,6 @@ def _keys_in(thing):
     if is_row(thing, 2) and thing[0] == "ring" and isinstance(thing[1], tuple) and len(thing[1]) > 1:
         return thing[1]
     return None
-
-
-def _is_gap(history, entry):
-    low = low_of(entry)
-    if low is None or low == 0:
-        return False
-    # No ANSWER is below 0, so a LOW below 0 is a gap whatever there is.
-    return not any([other[1] == entry[1] and other[5] == ("done", low) for other in history])
 
 
 def _is_twice(one, other):

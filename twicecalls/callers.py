@@ -4,7 +4,7 @@ from twicecalls.errors import NoStep
 from twicecalls.fractions import is_less
 from twicecalls.kinds import is_number
 from twicecalls.purses import WHOLE
-from twicecalls.states import with_part
+from twicecalls.states import is_open, with_part
 
 
 def due(setting, state, caller):
@@ -25,13 +25,19 @@ def heard_tell(setting, state, letter):
     _, key, answer = letter
     caller, group, n = key
     clock, callers, lanes, house = state
+    if not is_open(state, key):
+        return state
     purse, tries, groups = callers[caller]
     _, calls = groups[group]
-    if n >= len(calls) or calls[n][3] is not None:
-        return state
     calls = with_part(calls, n, (*calls[n][:3], answer))
-    groups = with_part(groups, group, (_heard(calls), calls))
+    groups = with_part(groups, group, (heard_in(calls), calls))
     return (clock, with_part(callers, caller, (purse, tries, groups)), lanes, house)
+
+
+def heard_in(calls):
+    """How many of the CALLS of a GROUP from 0 on without a gap have an ANSWER."""
+    lacking = [n for n, call in enumerate(calls) if call[3] is None]
+    return lacking[0] if lacking else len(calls)
 
 
 def _first_try(setting, caller, groups):
@@ -50,9 +56,3 @@ def _further_try(caller, groups, latest):
             if answer is None and last_try <= latest:
                 return ("further", (caller, group, n), 1 - lane)
     return ("nothing",)
-
-
-def _heard(calls):
-    """How many of the CALLS from 0 on without a gap have an ANSWER."""
-    lacking = [n for n, call in enumerate(calls) if call[3] is None]
-    return lacking[0] if lacking else len(calls)

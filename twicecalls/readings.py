@@ -51,6 +51,15 @@ def read_key(text):
     return key
 
 
+def number_said(word):
+    """The NUMBER that a word says, of at most twelve figures."""
+    if not word.isascii() or not word.isdecimal() or len(word) > MOST_FIGURES:
+        return None
+    if word.startswith("0") and word != "0":
+        return None
+    return int(word)
+
+
 def _lines_in(text):
     rows = text.split("\n")
     # One line end behind the last line is let be; the empty text has no line.
@@ -89,42 +98,34 @@ def _things_behind(words, form, line):
     return things
 
 
-def _number_said(word):
-    if not word.isascii() or not word.isdecimal() or len(word) > MOST_FIGURES:
-        return None
-    if word.startswith("0") and word != "0":
-        return None
-    return int(word)
-
-
 def _count_said(word):
-    number = _number_said(word)
+    number = number_said(word)
     return number if is_count(number) else None
 
 
 def _lane_said(word):
-    number = _number_said(word)
+    number = number_said(word)
     return number if is_lane(number) else None
 
 
 def _fraction_said(word):
-    pair = tuple([_number_said(part) for part in word.split("/")])
+    pair = tuple([number_said(part) for part in word.split("/")])
     return pair if is_fraction(pair) else None
 
 
 def _call_said(word):
     cell, *rest = word.split(":")
-    call = (cell, *[_number_said(part) for part in rest])
+    call = (cell, *[number_said(part) for part in rest])
     return call if is_call(call) else None
 
 
 def _key_said(word):
-    key = tuple([_number_said(part) for part in word.split(".")])
+    key = tuple([number_said(part) for part in word.split(".")])
     return key if is_key_form(key) else None
 
 
 SAID = {
-    "number": _number_said,
+    "number": number_said,
     "count": _count_said,
     "lane": _lane_said,
     "fraction": _fraction_said,

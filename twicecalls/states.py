@@ -29,9 +29,8 @@ def answer_had(setting, state, key):
     """The ANSWER that the CALLER of a KEY has, None of none."""
     if not is_key(setting, key):
         raise NoKey(key)
-    caller, group, n = key
-    _, calls = state[1][caller][2][group]
-    return calls[n][3] if n < len(calls) else None
+    call = call_tried(state, key)
+    return None if call is None else call[3]
 
 
 def answer_decided(setting, state, key):
@@ -42,6 +41,19 @@ def answer_decided(setting, state, key):
         if one == key:
             return answer
     return None
+
+
+def call_tried(state, key):
+    """What its CALLER knows of the CALL of a KEY, (first, last_try, lane, answer); None where it wasn't tried."""
+    caller, group, n = key
+    _, calls = state[1][caller][2][group]
+    return calls[n] if n < len(calls) else None
+
+
+def is_open(state, key):
+    """Whether the CALL of a KEY was tried, and its CALLER has no ANSWER."""
+    call = call_tried(state, key)
+    return call is not None and call[3] is None
 
 
 def with_part(row, k, part):
