@@ -165,8 +165,8 @@ class TestBack(Desks):
 class TestAsks(Desks):
     def test_where_there_is_nothing(self):
         self.says(desk_of(), ("steps", "0"), ("clock", "0"), ("book", "-"), ("open", "-"), ("cells", "-"),
-                  ("known 0.0.0", "untried -"), ("known 0.0.1", "untried -"), ("purse 0", "2/1 0"), ("purse 1", "1/3 0"),
-                  ("letters", "0 0"), ("order", "yes"))
+                  ("known 0.0.0", "untried -"), ("known 0.0.1", "untried -"), ("purse 0", "2/1 0"),
+                  ("purse 1", "1/3 0"), ("letters", "0 0"), ("order", "yes"))
 
     def test_where_there_is_much(self):
         desk = desk_of("do go 0 | go 0 | tick | get 0 0 | get 1 0")

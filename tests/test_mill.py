@@ -167,8 +167,8 @@ class TestWhatIsKnown(Mills):
     def test_known_of_each_way(self):
         mill = Mill(SETTING)
         key = (0, 0, 0)
-        for step, told in ((TICK, ("untried", None)), (("go", 0), ("open", None)), (("get", 0, 0), ("open", ("done", 5))),
-                           (("get", 0, 0), ("heard", ("done", 5)))):
+        for step, told in ((TICK, ("untried", None)), (("go", 0), ("open", None)),
+                           (("get", 0, 0), ("open", ("done", 5))), (("get", 0, 0), ("heard", ("done", 5)))):
             mill.do(step)
             self.assertTrue(same(mill.known(key), told))
             self.assertTrue(same(mill.known((0, 0, 1)), ("untried", None)))
@@ -223,9 +223,10 @@ class TestWhatIsKnown(Mills):
         self.assertTrue(same(mill.purse_of(0), ((2, 1), 0)))
 
     def test_purse_of_no_such_caller(self):
-        with self.assertRaises(NoStep) as caught:
-            Mill(SETTING).purse_of(3)
-        self.assertEqual(caught.exception.step, ("go", 3))
+        for caller in (3, HUGE, -1, True, None):
+            with self.assertRaises(NoStep) as caught:
+                Mill(SETTING).purse_of(caller)
+            self.assertTrue(same(caught.exception.step, ("go", caller)))
 
     def test_against_a_plain_one(self):
         chance = random.Random(78)
@@ -241,7 +242,8 @@ class TestWhatIsKnown(Mills):
                                                          if plain.calls.get(key, [0])[-1] is None)))
             self.assertTrue(same(mill.book_keys(), tuple(plain.house.book)))
             for caller in range(len(plain.callers)):
-                rows = [event[0] for event in plain.events if event[0] in ("first", "further") and event[1][0] == caller]
+                tries = [event for event in plain.events if event[0] in ("first", "further")]
+                rows = [word for word, key, _ in tries if key[0] == caller]
                 takings = tuple("first" if word == "first" else "more" for word in rows)
                 purse = purse_left(plain.callers[caller][1:], takings)
                 self.assertTrue(same(mill.purse_of(caller), (purse, rows.count("further"))))

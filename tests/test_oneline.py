@@ -73,7 +73,7 @@ class TestLineOf(Lines):
         self.assertGreater(many, 20)
 
     def test_one_lane_comes_to_the_same_book(self):
-        # [7]: a LINE done as STEPS, where nothing is lost, doubled or tried again; each CALLER's own order of tries stays.
+        # [7]: the "asks" of a LINE come to a house one behind the other, where nothing is lost, doubled or tried again.
         chance, many = random.Random(60), 0
         for _ in range(150):
             plain = made_run(chance, 100, 0.2)

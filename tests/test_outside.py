@@ -54,12 +54,13 @@ class TestOrdered(Outside):
         self.assertLess(self.order(history).index((1, 0, 0)), self.order(history).index((0, 0, 0)))
 
     def test_by_cells_against_their_keys(self):
-        history = (entry((0, 0, 0), "a", 1, 0, 9, 6), entry((1, 0, 0), "a", 2, 0, 9, 5), entry((2, 0, 0), "a", 3, 0, 9, 3))
+        history = (entry((0, 0, 0), "a", 1, 0, 9, 6), entry((1, 0, 0), "a", 2, 0, 9, 5),
+                   entry((2, 0, 0), "a", 3, 0, 9, 3))
         self.assertTrue(same(self.order(history), ((2, 0, 0), (1, 0, 0), (0, 0, 0))))
 
     def test_by_each_word(self):
-        history = (entry((0, 0, 0), "a", 1, 5, 9, 3), entry((0, 0, 1), "b", 2, 5, 9, 2), entry((1, 0, 0), "a", 2, 5, 9, 2),
-                   entry((2, 0, 0), "c", 3, 0, 4, LATE))
+        history = (entry((0, 0, 0), "a", 1, 5, 9, 3), entry((0, 0, 1), "b", 2, 5, 9, 2),
+                   entry((1, 0, 0), "a", 2, 5, 9, 2), entry((2, 0, 0), "c", 3, 0, 4, LATE))
         order = self.order(history)
         self.assertEqual(order[0], (2, 0, 0))
         self.assertLess(order.index((1, 0, 0)), order.index((0, 0, 0)))
@@ -94,12 +95,14 @@ class TestOrdered(Outside):
         history = (entry((0, 0, 0), "b", 1, 0, 9, 1), entry((0, 0, 1), "a", 1, 0, 2, 1),
                    entry((1, 0, 0), "c", 1, 3, 9, LATE), entry((2, 0, 0), "b", 1, 0, 2, LATE))
         self.order(history)
-        history = (entry((0, 0, 0), "a", 1, 0, 9, 2), entry((0, 0, 1), "b", 1, 0, 1, 1), entry((1, 0, 0), "a", 1, 2, 9, 1))
+        history = (entry((0, 0, 0), "a", 1, 0, 9, 2), entry((0, 0, 1), "b", 1, 0, 1, 1),
+                   entry((1, 0, 0), "a", 1, 2, 9, 1))
         self.assertEqual(set(self.bar(history, "ring")[1]), {(0, 0, 0), (0, 0, 1), (1, 0, 0)})
 
     def test_a_ring_with_others_ahead_and_behind(self):
-        ring = (entry((1, 0, 0), "a", 1, 10, 19, LATE), entry((1, 0, 1), "a", 1, 10, 19, 2), entry((1, 1, 0), "a", 1, 10, 19, 3),
-                entry((1, 2, 0), "a", 1, 10, 19, 5), entry((1, 2, 1), "a", 1, 10, 19, 4))
+        ring = (entry((1, 0, 0), "a", 1, 10, 19, LATE), entry((1, 0, 1), "a", 1, 10, 19, 2),
+                entry((1, 1, 0), "a", 1, 10, 19, 3), entry((1, 2, 0), "a", 1, 10, 19, 5),
+                entry((1, 2, 1), "a", 1, 10, 19, 4))
         ahead = tuple(entry((0, k, 0), "a", 1, 0, 1, LATE if k else 1) for k in range(3))
         behind = tuple(entry((2, k, 0), "b", 1, 90, 99, LATE) for k in range(3))
         bar = self.bar(ahead + ring + behind, "ring")
@@ -209,7 +212,8 @@ class TestHistoryOf(Outside):
         self.check(steps, (((0, 0, 0), "till", 5, 0, 1, ("done", 5)),))
 
     def test_begin_is_the_first_try(self):
-        steps = (TICK, ("go", 0), ("tear", 0), *(TICK,) * 3, ("go", 0), ("tear", 1), *(TICK,) * 3, ("go", 0), ("get", 0, 0))
+        steps = (TICK, ("go", 0), ("tear", 0), *(TICK,) * 3, ("go", 0), ("tear", 1), *(TICK,) * 3, ("go", 0),
+                 ("get", 0, 0))
         caller = (((("till", 5, 20),),), (1, 1), (3, 1))
         self.check(steps, (((0, 0, 0), "till", 5, 1, 7, ("done", 5)),), ((caller,), 2, 3))
 

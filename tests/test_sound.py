@@ -251,6 +251,21 @@ class TestKinds(Sound):
             elif isinstance(part, int):
                 self.unsound(path, part == 1, part != 1, -1, str(part), None)
 
+    def test_a_truth_for_a_one(self):
+        # Where True would do for Python: sums, ANSWERS, numbers, what was heard, all are 1.
+        setting = ((((((("a", 1, 1),) * 3),), (1, 1), (1, 1)),), 9, 1)
+        steps = (("tick",), ("go", 0), ("get", 0, 0), ("go", 0), ("go", 0), ("get", 0, 1), ("get", 0, 0), ("get", 1, 0),
+                 ("tick",), ("go", 0), ("get", 0, 0))
+        for k in range(len(steps) + 1):
+            state, _ = run(setting, steps[:k])
+            self.check(True, state, setting)
+            for path in paths_in(state):
+                part = part_at(state, path)
+                if isinstance(part, int) and part < 2:
+                    thing = put(state, path, bool(part))
+                    self.assertEqual(thing, state)
+                    self.check(False, thing, setting)
+
     def test_as_many_callers_and_groups(self):
         self.unsound((1,), STATE[1][:1], STATE[1] + STATE[1][1:], ())
         self.unsound((1, 0, 2), STATE[1][0][2][:2], STATE[1][0][2] + ((0, ()),))

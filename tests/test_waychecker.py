@@ -70,8 +70,8 @@ class TestRefused(Ways):
                 self.refused("shape", -1, thing, KEY, run(SETTING, WAY)[0])
 
     def test_step(self):
-        for step in (["tick"], ("go", 3), ("go", True), ("get", 1, 0), ("get", 0, HUGE), ("get", True, 0), (), None, "tick",
-                     ("tick", 0), *ODD_THINGS):
+        for step in (["tick"], ("go", 3), ("go", True), ("get", 1, 0), ("get", 0, HUGE), ("get", True, 0), (), None,
+                     "tick", ("tick", 0), *ODD_THINGS):
             for k in range(4):
                 self.refused("step", k, (*WAY[:k], step, *WAY[k:]))
             self.refused("step", 1, (("tick",), step, step, None))

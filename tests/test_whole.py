@@ -150,24 +150,6 @@ class TestPapers(unittest.TestCase):
             self.assertEqual(mill.state_now()[2], ((), ()))
             self.assertTrue(same(mill.then(len(plain.steps)), plain.state()))
 
-    def test_one_line_where_nothing_is_lost_comes_to_the_same_book(self):
-        # [7]: some STEPS come to it by one LANE, nothing lost: each CALLER goes, the house gets as the LINE has it.
-        many = 0
-        for plain in many_rows(8):
-            line = line_of(plain.setting, tuple(plain.steps))
-            other, first = PlainRun(plain.setting), {}
-            for entry in line:
-                if entry == TICK:
-                    other.clock += 1
-                elif entry[0] == "try":
-                    first[entry[1]] = other.clock
-                else:
-                    cell, number, span = call_of(plain.setting, entry[1])
-                    other.house.ask(other.clock, ("ask", entry[1], cell, number, first[entry[1]] + span, 0))
-            many += len(other.house.book)
-            self.assertEqual(other.house.book, plain.house.book)
-        self.assertGreater(many, 100)
-
 
 class TestHouse(unittest.TestCase):
     """[42]"""
