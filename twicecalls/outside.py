@@ -54,7 +54,8 @@ def _freed(history):
     order = [key for key in many if many[key] == 0]
     k = 0
     while k < len(order):
-        for key in behind[order[k]]:
+        placed = order[k]
+        for key in behind[placed]:
             many[key] -= 1
             if many[key] == 0:
                 order.append(key)
